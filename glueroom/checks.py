@@ -1,0 +1,23 @@
+"""The checks that several modules share."""
+
+from glueroom.errors import BadCount, NoPerson, OtherCount
+
+MOST_PEOPLE = 16
+
+
+def check_people(people):
+    """Raise an error unless so many people can be divided."""
+    if not 1 <= people <= MOST_PEOPLE:
+        raise BadCount("people", people)
+
+
+def check_person(people, person):
+    """Raise an error unless the person is one of so many people."""
+    if not 0 <= person < people:
+        raise NoPerson(person)
+
+
+def check_same_people(first, second):
+    """Raise an error unless two rows or divisions have equally many people."""
+    if first.people != second.people:
+        raise OtherCount()

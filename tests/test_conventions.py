@@ -1,0 +1,176 @@
+"""Point [2]: the conventions, and the names and arguments of the interface."""
+
+import copy
+import importlib
+import inspect
+import unittest
+
+from glueroom.divisions import Division, alone, together
+from glueroom.pictures import Picture, picture, same, seen
+from glueroom.rows import Free, Join, Move, Row, Swap, run
+
+INTERFACE = {
+    "errors": {
+        "BadCount": "(what, count)",
+        "NoPerson": "(person)",
+        "Twice": "(person)",
+        "NoName": "(name)",
+        "NoRow": "(name)",
+        "BadText": "(place)",
+    },
+    "divisions": {
+        "Division": "(people, groups)",
+        "alone": "(people)",
+        "together": "(division, one, other)",
+    },
+    "rows": {
+        "Join": "(one, other)",
+        "Free": "(one)",
+        "Swap": "(one, other)",
+        "Move": "(one, other)",
+        "Row": "(people, commands)",
+        "run": "(row, start, *, rounds=1)",
+    },
+    "pictures": {
+        "Picture": "(classes, dead)",
+        "picture": "(row)",
+        "seen": "(row, *, watched=None)",
+        "same": "(row, other, *, watched=None)",
+    },
+}
+
+BARE_ERRORS = ("RoomError", "OtherCount", "NoStart", "NoQuestion", "NoAnswer", "NoBack")
+
+
+class TestInterface(unittest.TestCase):
+    def test_names_and_arguments(self):
+        for place, wanted in INTERFACE.items():
+            module = importlib.import_module("glueroom." + place)
+            for name, arguments in wanted.items():
+                self.assertEqual(str(inspect.signature(getattr(module, name))), arguments, name)
+
+    def test_each_is_defined_in_its_file(self):
+        for place, wanted in INTERFACE.items():
+            module = importlib.import_module("glueroom." + place)
+            for name in wanted:
+                self.assertEqual(getattr(module, name).__module__, "glueroom." + place, name)
+        module = importlib.import_module("glueroom.errors")
+        for name in BARE_ERRORS:
+            self.assertEqual(getattr(module, name).__module__, "glueroom.errors", name)
+
+    def test_keyword_only_arguments(self):
+        row = Row(2, [])
+        for action, given in ((run, (row, alone(2), 1)), (seen, (row, [0])), (same, (row, row, [0]))):
+            with self.assertRaises(TypeError):
+                action(*given)
+
+    def test_by_keyword_as_by_position(self):
+        self.assertEqual(Division(people=3, groups=[[0, 2]]), Division(3, [[0, 2]]))
+        self.assertEqual(alone(people=3), alone(3))
+        self.assertIs(together(division=alone(3), one=1, other=1), True)
+        self.assertIs(together(other=0, one=1, division=alone(3)), False)
+        for command in (Join, Swap, Move):
+            self.assertEqual(command(one=1, other=2), command(1, 2))
+            self.assertEqual(command(other=2, one=1), command(1, 2))
+        self.assertEqual(Free(one=1), Free(1))
+        row = Row(people=3, commands=[Swap(0, 1)])
+        self.assertEqual(row, Row(3, [Swap(0, 1)]))
+        start = Division(3, [[0, 2]])
+        self.assertEqual(run(row=row, start=start, rounds=3), run(row, start, rounds=3))
+        self.assertEqual(Picture(classes=[([0], [1])], dead=[[0]]), Picture([([0], [1])], [[0]]))
+        self.assertEqual(picture(row=row), picture(row))
+        self.assertEqual(seen(row=row, watched=[0, 2]), seen(row, watched=[0, 2]))
+        self.assertIs(same(row=row, other=Row(3, []), watched=[0, 1]), True)
+
+
+class TestArguments(unittest.TestCase):
+    def test_lists_and_tuples_are_accepted_alike(self):
+        wanted = Division(4, [[0, 2], [1, 3]])
+        for groups in (((0, 2), (1, 3)), [(0, 2), [1, 3]], ([0, 2], [1, 3])):
+            self.assertEqual(Division(4, groups), wanted)
+        self.assertEqual(Row(2, (Free(0), Join(0, 1))), Row(2, [Free(0), Join(0, 1)]))
+        wanted = Picture([([0], [1]), ([1], [])], [[0]])
+        self.assertEqual(Picture(([(0,), (1,)], ((1,), ())), ((0,),)), wanted)
+        row = Row(3, [Swap(0, 1)])
+        self.assertEqual(seen(row, watched=(0, 2)), seen(row, watched=[0, 2]))
+        self.assertIs(same(row, Row(3, []), watched=(0, 2)), False)
+        self.assertIs(same(row, Row(3, []), watched=[0, 2]), False)
+
+    def test_later_changes_of_lists_have_no_effect(self):
+        groups = [[0, 2], [1]]
+        division = Division(3, groups)
+        groups[0].append(1)
+        groups.pop()
+        self.assertEqual(division.groups, ((0, 2), (1,)))
+
+        commands = [Free(0), Join(0, 1)]
+        row = Row(2, commands)
+        commands.append(Free(1))
+        commands[0] = Free(1)
+        self.assertEqual(row.commands, (Free(0), Join(0, 1)))
+
+        classes = [[[0, 1], [1]], [[2], []]]
+        dead = [[0], [2]]
+        shown = Picture(classes, dead)
+        classes[0][0].append(7)
+        classes[0][1].clear()
+        classes.pop()
+        dead[0].append(8)
+        dead.pop()
+        self.assertEqual((shown.classes, shown.dead), ((((0, 1), (1,)), ((2,), ())), ((0,), (2,))))
+
+    def test_arguments_are_not_changed(self):
+        groups = [[3, 1], [2, 0]]
+        commands = [Swap(1, 0), Free(2)]
+        classes = [([2, 1], [1, 0]), ([0], [])]
+        dead = [[3, 2], [1]]
+        watched = [2, 0, 2]
+        given = (groups, commands, classes, dead, watched)
+        before = copy.deepcopy(given)
+        start = Division(4, groups)
+        row = Row(4, commands)
+        Picture(classes, dead)
+        seen(row, watched=watched)
+        same(row, Row(4, []), watched=watched)
+        run(row, start, rounds=2)
+        together(start, 0, 2)
+        self.assertEqual(given, before)
+        self.assertEqual((start, row), (Division(4, before[0]), Row(4, before[1])))
+
+    def test_equal_calls_have_equal_results(self):
+        def results():
+            row = Row(4, [Join(0, 1), Free(0), Swap(2, 3)])
+            start = Division(4, [[0, 2]])
+            return (start, alone(4), row, run(row, start), picture(row), seen(row), seen(row, watched=[3, 0]))
+
+        self.assertEqual(results(), results())
+
+
+class TestEquality(unittest.TestCase):
+    def everything(self):
+        return [
+            Division(1, []), Division(2, []), Division(2, [[0, 1]]),
+            Join(0, 1), Join(1, 0), Swap(0, 1), Move(0, 1), Free(0), Free(1),
+            Row(1, []), Row(2, []), Row(2, [Free(0)]), Row(2, [Free(1)]),
+            Picture([], []), Picture([([0], [])], []), Picture([([0], [0])], []), Picture([], [[0]]),
+        ]
+
+    def test_equal_only_to_the_same_class_with_equal_fields(self):
+        for at, thing in enumerate(self.everything()):
+            for place, other in enumerate(self.everything()):
+                self.assertIs(thing == other, at == place)
+                self.assertIs(thing != other, at != place)
+
+    def test_never_equal_to_another_kind_of_value(self):
+        for thing in self.everything():
+            fields = tuple(vars(thing).values())
+            for other in (fields, list(fields), fields[0], None, 0, "", vars(thing)):
+                self.assertIs(thing == other, False)
+                self.assertIs(thing != other, True)
+                self.assertIs(other == thing, False)
+
+    def test_same_fields_in_another_class_differ(self):
+        self.assertNotEqual(Division(1, []), Row(1, []))
+        self.assertNotEqual(Row(1, []), Picture([], []))
+        self.assertNotEqual(Join(0, 0), Swap(0, 0))
+        self.assertNotEqual(Swap(0, 0), Move(0, 0))
