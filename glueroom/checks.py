@@ -17,6 +17,22 @@ def check_person(people, person):
         raise NoPerson(person)
 
 
+def check_pairs(people, pairs):
+    """Raise an error for the first person in the pairs who does not exist."""
+    for pair in pairs:
+        for person in pair:
+            check_person(people, person)
+
+
+def watched_people(people, watched):
+    """Return a list of who is watched; raise an error for the first who does not exist."""
+    if watched is None:
+        return list(range(people))
+    for person in watched:
+        check_person(people, person)
+    return list(watched)
+
+
 def check_same_people(first, second):
     """Raise an error unless two rows or divisions have equally many people."""
     if first.people != second.people:

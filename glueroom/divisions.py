@@ -46,6 +46,11 @@ def grouped(rooms):
     return tuple([tuple(group) for group in found.values()])
 
 
+def pairs_of(ascending):
+    """Return the pairs of an ascending list as a list: each is ascending, and so is the list."""
+    return [(one, other) for one in ascending for other in ascending if one < other]
+
+
 def _check_groups(people, groups):
     """Raise the error for the first fault in the groups."""
     met = {}

@@ -62,6 +62,38 @@ def mixed_rows(people, many, most, seed):
     ]
 
 
+def varied_rows(people, many, most, seed):
+    """Return rows like mixed_rows, but each with some kinds of commands only: they lose less of the start."""
+    chance = random.Random(seed)
+    rows = []
+    for _ in range(many):
+        kinds = chance.sample([Join, Free, Swap, Move], chance.randint(1, 4))
+        commands = [command for command in all_commands(people) if type(command) in kinds]
+        rows.append(Row(people, [chance.choice(commands) for _ in range(chance.randint(0, most))]))
+    return rows
+
+
+def mixed_pairs(people, many, seed):
+    """Return pairs of people, as tuples and lists, also of equal people."""
+    chance = random.Random(seed)
+    return [chance.choice((list, tuple))(chance.choices(range(people), k=2)) for _ in range(many)]
+
+
+def start_with(people, pairs):
+    """Return the start in which everybody is alone, but for these pairs."""
+    rooms = [{person} for person in range(people)]
+    for pair in pairs:
+        touched = [room for room in rooms if room & set(pair)]
+        rooms = [room for room in rooms if room not in touched] + [set().union(*touched)]
+    return Division(people, ordered(rooms))
+
+
+def few_tuples(people):
+    """Return all tuples of at most two pairs, fewer pairs first, then in ascending order."""
+    pairs = list(itertools.combinations(range(people), 2))
+    return [chosen for many in (0, 1, 2) for chosen in itertools.combinations(pairs, many)]
+
+
 def all_watched(people):
     """Return every set of people, as a tuple."""
     return [chosen for many in range(people + 1) for chosen in itertools.combinations(range(people), many)]
@@ -102,6 +134,28 @@ def step(command, rooms):
         yours.discard(other)
         mine.add(other)
     return rooms
+
+
+def parts(shown):
+    return (shown.classes, shown.dead)
+
+
+def told_by_steps(shown, watched):
+    """Return the parts of a picture after the three steps of point [7], word by word."""
+    classes = [([end for end in found if end in watched], list(starts)) for found, starts in shown.classes]
+    dead = list(shown.dead) + [tuple(starts) for found, starts in classes if not found and starts]
+    classes = [pair for pair in classes if pair[0]]
+    begun = [pair for pair in classes if pair[1]]
+    if len(begun) <= 1:
+        classes = [(found, []) for found, _ in classes]
+        dead = []
+    if len(begun) == 2:
+        first, second = sorted(begun, key=lambda pair: min(pair[0]))
+        low, high = sorted([first[1], second[1]], key=min)
+        closed = [pair for pair in classes if not pair[1]]
+        classes = closed + [(first[0], low), (second[0], high)]
+    pairs = sorted((tuple(sorted(found)), tuple(sorted(starts))) for found, starts in classes)
+    return (tuple(pairs), tuple(sorted(dead)))
 
 
 def view(groups, watched):

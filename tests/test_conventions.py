@@ -5,9 +5,14 @@ import importlib
 import inspect
 import unittest
 
+from glueroom.differences import differ, is_difference
 from glueroom.divisions import Division, alone, together
+from glueroom.losses import Known, Lost, count_starts, known, normal, undo
 from glueroom.pictures import Picture, picture, same, seen
+from glueroom.powers import cycle, far, forgets, glued, power
 from glueroom.rows import Free, Join, Move, Row, Swap, run
+from glueroom.wishes import matters, meeting, wish
+from tests.helpers import mixed_rows, varied_rows
 
 INTERFACE = {
     "errors": {
@@ -37,6 +42,30 @@ INTERFACE = {
         "seen": "(row, *, watched=None)",
         "same": "(row, other, *, watched=None)",
     },
+    "differences": {
+        "differ": "(row, other, *, watched=None)",
+        "is_difference": "(row, other, pairs, *, watched=None)",
+    },
+    "powers": {
+        "glued": "(first, second)",
+        "power": "(row, rounds)",
+        "far": "(row, start, rounds)",
+        "cycle": "(row)",
+        "forgets": "(row)",
+    },
+    "wishes": {
+        "meeting": "(row, one, other)",
+        "wish": "(row, wanted, apart)",
+        "matters": "(row, one, other, *, watched=None)",
+    },
+    "losses": {
+        "Known": "(together, apart)",
+        "known": "(row, end)",
+        "Lost": "(one, other)",
+        "undo": "(row)",
+        "normal": "(row)",
+        "count_starts": "(row, end)",
+    },
 }
 
 BARE_ERRORS = ("RoomError", "OtherCount", "NoStart", "NoQuestion", "NoAnswer", "NoBack")
@@ -60,7 +89,10 @@ class TestInterface(unittest.TestCase):
 
     def test_keyword_only_arguments(self):
         row = Row(2, [])
-        for action, given in ((run, (row, alone(2), 1)), (seen, (row, [0])), (same, (row, row, [0]))):
+        for action, given in (
+            (run, (row, alone(2), 1)), (seen, (row, [0])), (same, (row, row, [0])), (differ, (row, row, [0])),
+            (is_difference, (row, row, [], [0])), (matters, (row, 0, 1, [0])),
+        ):
             with self.assertRaises(TypeError):
                 action(*given)
 
@@ -82,6 +114,26 @@ class TestInterface(unittest.TestCase):
         self.assertEqual(seen(row=row, watched=[0, 2]), seen(row, watched=[0, 2]))
         self.assertIs(same(row=row, other=Row(3, []), watched=[0, 1]), True)
 
+    def test_by_keyword_as_by_position_in_questions(self):
+        row = Row(3, [Swap(0, 1)])
+        other = Row(3, [])
+        start = Division(3, [[0, 2]])
+        self.assertEqual(differ(row=row, other=other, watched=[0, 2]), differ(row, other, watched=[0, 2]))
+        self.assertIs(is_difference(row=row, other=other, pairs=[(0, 2)], watched=[0, 2]), True)
+        self.assertIs(is_difference(pairs=[(0, 1)], other=other, row=row), False)
+        self.assertEqual(glued(second=Row(3, [Free(2)]), first=row), glued(row, Row(3, [Free(2)])))
+        self.assertEqual(power(rounds=3, row=row), power(row, 3))
+        self.assertEqual(far(row=row, start=start, rounds=3), far(row, start, 3))
+        self.assertEqual((cycle(row=row), forgets(row=row)), ((0, 2), None))
+        self.assertEqual(meeting(row=row, one=0, other=2), "sometimes")
+        self.assertEqual(wish(apart=[(0, 1)], wanted=[(0, 2)], row=row), wish(row, [(0, 2)], [(0, 1)]))
+        self.assertEqual(matters(row=row, one=0, other=1, watched=[0, 2]), matters(row, 0, 1, watched=[0, 2]))
+        self.assertEqual(known(row=row, end=start), known(row, start))
+        self.assertEqual(Known(apart=[(0, 1)], together=[(0, 2)]), Known([(0, 2)], [(0, 1)]))
+        self.assertEqual(Lost(other=1, one=0), Lost(0, 1))
+        self.assertEqual((undo(row=row), normal(row=row)), (undo(row), normal(row)))
+        self.assertEqual(count_starts(row=row, end=start), 1)
+
 
 class TestArguments(unittest.TestCase):
     def test_lists_and_tuples_are_accepted_alike(self):
@@ -95,6 +147,21 @@ class TestArguments(unittest.TestCase):
         self.assertEqual(seen(row, watched=(0, 2)), seen(row, watched=[0, 2]))
         self.assertIs(same(row, Row(3, []), watched=(0, 2)), False)
         self.assertIs(same(row, Row(3, []), watched=[0, 2]), False)
+
+    def test_lists_and_tuples_are_accepted_alike_in_questions(self):
+        row = Row(4, [Swap(0, 1), Free(3)])
+        other = Row(4, [])
+        for watched in ([2, 0, 1], (2, 0, 1)):
+            self.assertEqual(differ(row, other, watched=watched), ((0, 2),))
+            self.assertEqual(matters(row, 1, 3, watched=watched), ((0, 3),))
+            for pairs in ([(0, 2)], ((2, 0),), [[0, 2]], ([2, 0],)):
+                self.assertIs(is_difference(row, other, pairs, watched=watched), True)
+        wanted = wish(row, [(0, 2)], [(0, 1)])
+        self.assertIsNotNone(wanted)
+        for pairs, others in (([[0, 2]], [[0, 1]]), (((0, 2),), ((0, 1),)), (([0, 2],), [(0, 1)])):
+            self.assertEqual(wish(row, pairs, others), wanted)
+        for pairs in ([[1, 0], [0, 3]], ((1, 0), (0, 3)), ([0, 3], (0, 1))):
+            self.assertEqual(Known(pairs, pairs), Known([(0, 1), (0, 3)], [(0, 1), (0, 3)]))
 
     def test_later_changes_of_lists_have_no_effect(self):
         groups = [[0, 2], [1]]
@@ -119,6 +186,12 @@ class TestArguments(unittest.TestCase):
         dead.pop()
         self.assertEqual((shown.classes, shown.dead), ((((0, 1), (1,)), ((2,), ())), ((0,), (2,))))
 
+        pairs = [[0, 1], [0, 2]]
+        found = Known(pairs, pairs)
+        pairs[0].append(3)
+        pairs.pop()
+        self.assertEqual((found.together, found.apart), (((0, 1), (0, 2)), ((0, 1), (0, 2))))
+
     def test_arguments_are_not_changed(self):
         groups = [[3, 1], [2, 0]]
         commands = [Swap(1, 0), Free(2)]
@@ -137,6 +210,32 @@ class TestArguments(unittest.TestCase):
         self.assertEqual(given, before)
         self.assertEqual((start, row), (Division(4, before[0]), Row(4, before[1])))
 
+    def test_arguments_of_questions_are_not_changed(self):
+        wanted = [[2, 1], (1, 1)]
+        apart = [[3, 0], [2, 0]]
+        watched = [3, 1, 3]
+        given = (wanted, apart, watched)
+        before = copy.deepcopy(given)
+        row = Row(4, [Swap(0, 1), Free(3)])
+        other = Row(4, [Join(2, 1)])
+        start = Division(4, [[0, 2], [1, 3]])
+        differ(row, other, watched=watched)
+        is_difference(row, other, wanted, watched=watched)
+        wish(row, wanted, apart)
+        matters(row, 0, 3, watched=watched)
+        meeting(row, 1, 2)
+        Known(wanted, apart)
+        glued(row, other)
+        far(row, start, 10 ** 30)
+        for action in (cycle, forgets, undo, normal):
+            action(row)
+        known(row, run(row, start))
+        count_starts(row, start)
+        self.assertEqual(given, before)
+        self.assertEqual(row, Row(4, [Swap(0, 1), Free(3)]))
+        self.assertEqual(other, Row(4, [Join(2, 1)]))
+        self.assertEqual(start, Division(4, [[0, 2], [1, 3]]))
+
     def test_equal_calls_have_equal_results(self):
         def results():
             row = Row(4, [Join(0, 1), Free(0), Swap(2, 3)])
@@ -144,6 +243,22 @@ class TestArguments(unittest.TestCase):
             return (start, alone(4), row, run(row, start), picture(row), seen(row), seen(row, watched=[3, 0]))
 
         self.assertEqual(results(), results())
+
+    def test_equal_calls_of_questions_have_equal_results(self):
+        def results(kind):
+            found = []
+            for row, other in zip(varied_rows(5, 30, 6, 1), mixed_rows(5, 30, 6, 2)):
+                row = Row(5, kind(row.commands))
+                start = Division(5, kind([kind([0, 2]), kind([1, 4])]))
+                found += [differ(row, other, watched=kind([1, 2, 3])), glued(row, other), power(row, 10 ** 9)]
+                found += [far(row, start, 77), cycle(row), forgets(row), meeting(row, 0, 3), undo(row), normal(row)]
+                found += [wish(row, kind([kind([0, 1]), kind([2, 3])]), kind([kind([0, 4])])), matters(row, 1, 3)]
+                found += [is_difference(row, other, kind([kind([0, 1])])), known(row, run(row, start))]
+                found += [count_starts(row, run(row, start))]
+            return found
+
+        self.assertEqual(results(list), results(list))
+        self.assertEqual(results(list), results(tuple))
 
 
 class TestEquality(unittest.TestCase):
@@ -153,6 +268,7 @@ class TestEquality(unittest.TestCase):
             Join(0, 1), Join(1, 0), Swap(0, 1), Move(0, 1), Free(0), Free(1),
             Row(1, []), Row(2, []), Row(2, [Free(0)]), Row(2, [Free(1)]),
             Picture([], []), Picture([([0], [])], []), Picture([([0], [0])], []), Picture([], [[0]]),
+            Known([], []), Known([(0, 1)], []), Known([], [(0, 1)]), Lost(0, 1), Lost(1, 0),
         ]
 
     def test_equal_only_to_the_same_class_with_equal_fields(self):
@@ -174,3 +290,6 @@ class TestEquality(unittest.TestCase):
         self.assertNotEqual(Row(1, []), Picture([], []))
         self.assertNotEqual(Join(0, 0), Swap(0, 0))
         self.assertNotEqual(Swap(0, 0), Move(0, 0))
+        self.assertNotEqual(Lost(0, 1), Join(0, 1))
+        self.assertNotEqual(Swap(0, 1), Lost(0, 1))
+        self.assertNotEqual(Known([], []), Picture([], []))

@@ -2,9 +2,13 @@
 
 import unittest
 
-from glueroom.divisions import Division
+from glueroom.differences import differ, is_difference
+from glueroom.divisions import Division, alone
+from glueroom.losses import count_starts, known, undo
 from glueroom.pictures import picture, same, seen
-from glueroom.rows import Free, Join, Row, Swap, run
+from glueroom.powers import cycle, far, forgets, power
+from glueroom.rows import Free, Join, Move, Row, Swap, run
+from glueroom.wishes import matters, meeting, wish
 from tests.helpers import fault
 
 
@@ -34,3 +38,53 @@ class TestExamples(unittest.TestCase):
     def test_same(self):
         self.assertIs(same(Row(2, [Swap(0, 1)]), Row(2, [])), True)
         self.assertIs(same(Row(3, [Swap(0, 1)]), Row(3, [])), False)
+
+    def test_differ(self):
+        self.assertEqual(differ(Row(3, [Swap(0, 1)]), Row(3, [])), ((0, 2),))
+        self.assertEqual(
+            differ(Row(4, [Join(0, 1), Free(0), Free(1)]), Row(4, [Free(0), Free(1)])), ((0, 2), (1, 3)))
+
+    def test_is_difference(self):
+        self.assertIs(is_difference(Row(3, [Swap(0, 1)]), Row(3, []), [(2, 1), (1, 1)]), True)
+
+    def test_power(self):
+        shown = power(Row(3, [Free(0), Move(1, 0)]), 10 ** 30)
+        self.assertEqual((shown.classes, shown.dead), ((((0, 1), ()), ((2,), (2,))), ((0,), (1,))))
+
+    def test_far(self):
+        row = Row(3, [Swap(0, 1), Swap(1, 2)])
+        self.assertEqual(far(row, Division(3, [[0, 1]]), 10 ** 30).groups, ((0, 2), (1,)))
+
+    def test_cycle(self):
+        self.assertEqual(
+            (cycle(Row(2, [Swap(0, 1)])), cycle(Row(3, [Swap(0, 1)])), cycle(Row(3, [Join(0, 1)]))),
+            ((0, 1), (0, 2), (1, 1)))
+
+    def test_forgets(self):
+        self.assertEqual((forgets(Row(3, [Free(0), Move(1, 0)])), forgets(Row(3, [Join(0, 1)]))), (1, None))
+
+    def test_meeting(self):
+        row = Row(3, [Join(0, 1), Free(2)])
+        self.assertEqual((meeting(row, 0, 1), meeting(row, 0, 2)), ("always", "never"))
+
+    def test_wish(self):
+        self.assertEqual(wish(Row(3, [Swap(0, 1)]), [(0, 2)], [(0, 1)]).groups, ((0,), (1, 2)))
+        self.assertIsNone(wish(Row(3, [Free(0)]), [(0, 2)], []))
+
+    def test_matters(self):
+        row = Row(4, [Join(0, 1), Free(0), Free(1)])
+        self.assertEqual((matters(row, 0, 1), matters(row, 0, 2), matters(row, 2, 3)), (None, ((0, 3),), ()))
+
+    def test_known(self):
+        found = known(Row(3, [Swap(0, 1)]), Division(3, [[0, 2]]))
+        self.assertEqual((found.together, found.apart), (((1, 2),), ((0, 1), (0, 2))))
+        self.assertEqual(fault(known, Row(3, [Join(0, 1)]), alone(3)), ("NoStart",))
+
+    def test_undo(self):
+        lost = undo(Row(3, [Free(2)]))
+        self.assertEqual((lost.one, lost.other), (0, 2))
+        row = Row(3, [Swap(0, 1), Swap(1, 2)])
+        self.assertEqual(run(undo(row), run(row, Division(3, [[0, 2]]))).groups, ((0, 2), (1,)))
+
+    def test_count_starts(self):
+        self.assertEqual(count_starts(Row(3, [Free(2)]), alone(3)), 3)

@@ -6,11 +6,9 @@ import unittest
 from glueroom.divisions import Division, alone
 from glueroom.pictures import Picture, picture, same, seen
 from glueroom.rows import Free, Join, Move, Row, Swap, run
-from tests.helpers import all_starts, all_watched, fault, mixed_rows, ordered, short_rows, view
-
-
-def parts(shown):
-    return (shown.classes, shown.dead)
+from tests.helpers import (
+    all_starts, all_watched, fault, mixed_rows, ordered, parts, short_rows, told_by_steps, view,
+)
 
 
 def glued_ends(shown, start):
@@ -22,24 +20,6 @@ def glued_ends(shown, start):
         whole = (set().union(*[found for found, _ in touched]), set().union(*[starts for _, starts in touched]))
         blocks = [block for block in blocks if block not in touched] + [whole]
     return ordered([found for found, _ in blocks])
-
-
-def told_by_steps(shown, watched):
-    """Return the parts of a picture after the three steps of point [7], word by word."""
-    classes = [([end for end in found if end in watched], list(starts)) for found, starts in shown.classes]
-    dead = list(shown.dead) + [tuple(starts) for found, starts in classes if not found and starts]
-    classes = [pair for pair in classes if pair[0]]
-    begun = [pair for pair in classes if pair[1]]
-    if len(begun) <= 1:
-        classes = [(found, []) for found, _ in classes]
-        dead = []
-    if len(begun) == 2:
-        first, second = sorted(begun, key=lambda pair: min(pair[0]))
-        low, high = sorted([first[1], second[1]], key=min)
-        closed = [pair for pair in classes if not pair[1]]
-        classes = closed + [(first[0], low), (second[0], high)]
-    pairs = sorted((tuple(sorted(found)), tuple(sorted(starts))) for found, starts in classes)
-    return (tuple(pairs), tuple(sorted(dead)))
 
 
 class TestPictureClass(unittest.TestCase):
