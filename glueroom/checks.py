@@ -34,6 +34,6 @@ def watched_people(people, watched):
 
 
 def check_same_people(first, second):
-    """Raise an error unless two rows or divisions have equally many people."""
+    """Raise an error unless two things, such as a row and a division, have equally many people."""
     if first.people != second.people:
         raise OtherCount()

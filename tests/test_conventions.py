@@ -5,14 +5,19 @@ import importlib
 import inspect
 import unittest
 
+from glueroom import errors
+from glueroom.book import Book
+from glueroom.desk import Desk
 from glueroom.differences import differ, is_difference
 from glueroom.divisions import Division, alone, together
+from glueroom.finders import Finder
 from glueroom.losses import Known, Lost, count_starts, known, normal, undo
 from glueroom.pictures import Picture, picture, same, seen
 from glueroom.powers import cycle, far, forgets, glued, power
+from glueroom.roomtexts import division_text, read_division, read_row, row_text
 from glueroom.rows import Free, Join, Move, Row, Swap, run
 from glueroom.wishes import matters, meeting, wish
-from tests.helpers import mixed_rows, varied_rows
+from tests.helpers import fault, mixed_rows, varied_rows
 
 INTERFACE = {
     "errors": {
@@ -66,6 +71,46 @@ INTERFACE = {
         "normal": "(row)",
         "count_starts": "(row, end)",
     },
+    "finders": {
+        "Finder": "(people)",
+    },
+    "book": {
+        "Book": "(people)",
+    },
+    "roomtexts": {
+        "division_text": "(division)",
+        "read_division": "(people, text)",
+        "row_text": "(row)",
+        "read_row": "(people, text)",
+    },
+    "desk": {
+        "Desk": "(people)",
+    },
+}
+
+METHODS = {
+    Finder: {
+        "question": "(self)",
+        "hear": "(self, end)",
+        "asked": "(self)",
+        "found": "(self)",
+    },
+    Book: {
+        "keep": "(self, name, commands)",
+        "drop": "(self, name)",
+        "row": "(self, name)",
+        "names": "(self)",
+        "seat": "(self, division)",
+        "where": "(self)",
+        "call": "(self, name)",
+        "claim": "(self, name, other)",
+        "claims": "(self)",
+        "many": "(self)",
+        "back": "(self)",
+    },
+    Desk: {
+        "tell": "(self, row)",
+    },
 }
 
 BARE_ERRORS = ("RoomError", "OtherCount", "NoStart", "NoQuestion", "NoAnswer", "NoBack")
@@ -86,6 +131,14 @@ class TestInterface(unittest.TestCase):
         module = importlib.import_module("glueroom.errors")
         for name in BARE_ERRORS:
             self.assertEqual(getattr(module, name).__module__, "glueroom.errors", name)
+
+    def test_methods_are_defined_in_their_class(self):
+        for place, wanted in METHODS.items():
+            for name, arguments in wanted.items():
+                self.assertIn(name, vars(place))
+                self.assertEqual(str(inspect.signature(vars(place)[name])), arguments, name)
+        for name in [*INTERFACE["errors"], *BARE_ERRORS[1:]]:
+            self.assertEqual(str(inspect.signature(vars(getattr(errors, name))["told"])), "(self)", name)
 
     def test_keyword_only_arguments(self):
         row = Row(2, [])
@@ -134,6 +187,32 @@ class TestInterface(unittest.TestCase):
         self.assertEqual((undo(row=row), normal(row=row)), (undo(row), normal(row)))
         self.assertEqual(count_starts(row=row, end=start), 1)
 
+    def test_by_keyword_as_by_position_in_finders_and_texts(self):
+        finder = Finder(people=2)
+        self.assertEqual(finder.question(), Finder(2).question())
+        finder.hear(end=finder.question())
+        finder.hear(end=Division(2, [[0, 1]]))
+        self.assertEqual(finder.found(), seen(Row(2, [])))
+        self.assertEqual(division_text(division=Division(3, [[0, 2]])), "0 2 | 1")
+        self.assertEqual(read_division(text="0 2", people=3), read_division(3, "0 2"))
+        self.assertEqual(row_text(row=Row(3, [Free(2)])), "free 2")
+        self.assertEqual(read_row(text="free 2", people=3), read_row(3, "free 2"))
+
+    def test_by_keyword_as_by_position_in_books_and_desks(self):
+        book = Book(people=3)
+        book.keep(commands=[Swap(0, 1)], name="a")
+        book.keep(name="b", commands=())
+        self.assertEqual(book.row(name="a"), book.row("a"))
+        book.seat(division=Division(3, [[0, 2]]))
+        book.call(name="a")
+        self.assertEqual(book.where(), Division(3, [[1, 2]]))
+        self.assertIs(book.claim(other="a", name="b"), False)
+        self.assertEqual(book.claims(), [("a", "b", False)])
+        book.drop(name="b")
+        self.assertEqual((book.names(), book.many()), (["a"], 6))
+        desk = Desk(people=3)
+        self.assertEqual(desk.tell(row="where"), desk.tell("where"))
+
 
 class TestArguments(unittest.TestCase):
     def test_lists_and_tuples_are_accepted_alike(self):
@@ -162,6 +241,15 @@ class TestArguments(unittest.TestCase):
             self.assertEqual(wish(row, pairs, others), wanted)
         for pairs in ([[1, 0], [0, 3]], ((1, 0), (0, 3)), ([0, 3], (0, 1))):
             self.assertEqual(Known(pairs, pairs), Known([(0, 1), (0, 3)], [(0, 1), (0, 3)]))
+
+    def test_lists_and_tuples_are_accepted_alike_in_books(self):
+        first = Book(3)
+        second = Book(3)
+        first.keep("a", [Free(0), Swap(1, 2)])
+        second.keep("a", (Free(0), Swap(1, 2)))
+        self.assertEqual(first.row("a"), second.row("a"))
+        first.keep("a", (Free(0), Swap(1, 2)))
+        self.assertEqual(first.many(), 1)
 
     def test_later_changes_of_lists_have_no_effect(self):
         groups = [[0, 2], [1]]
@@ -236,6 +324,22 @@ class TestArguments(unittest.TestCase):
         self.assertEqual(other, Row(4, [Join(2, 1)]))
         self.assertEqual(start, Division(4, [[0, 2], [1, 3]]))
 
+    def test_arguments_of_books_and_texts_are_not_changed(self):
+        commands = [Swap(1, 0), Free(2)]
+        start = Division(3, [[1, 2]])
+        row = Row(3, commands)
+        book = Book(3)
+        book.keep("a", commands)
+        book.seat(start)
+        book.call("a")
+        fault(book.keep, "b", commands * 40)
+        division_text(start)
+        row_text(row)
+        finder = Finder(3)
+        finder.hear(start)
+        self.assertEqual(commands, [Swap(1, 0), Free(2)])
+        self.assertEqual((start, row), (Division(3, [[1, 2]]), Row(3, [Swap(1, 0), Free(2)])))
+
     def test_equal_calls_have_equal_results(self):
         def results():
             row = Row(4, [Join(0, 1), Free(0), Swap(2, 3)])
@@ -259,6 +363,25 @@ class TestArguments(unittest.TestCase):
 
         self.assertEqual(results(list), results(list))
         self.assertEqual(results(list), results(tuple))
+
+
+    def test_equal_calls_of_finders_and_desks_have_equal_results(self):
+        def results():
+            found = []
+            for row in varied_rows(5, 20, 6, 3):
+                finder = Finder(5)
+                question = finder.question()
+                while question is not None:
+                    found.append(question)
+                    finder.hear(run(row, question))
+                    question = finder.question()
+                found += [finder.found(), finder.asked(), row_text(row), read_row(5, row_text(row))]
+                desk = Desk(5)
+                for command in ("keep a " + row_text(row), "call a", "where", "same a a", "cycle a", "forgets a"):
+                    found.append(desk.tell(command))
+            return found
+
+        self.assertEqual(results(), results())
 
 
 class TestEquality(unittest.TestCase):

@@ -2,11 +2,15 @@
 
 import unittest
 
+from glueroom.book import Book
+from glueroom.desk import Desk
 from glueroom.differences import differ, is_difference
 from glueroom.divisions import Division, alone
+from glueroom.finders import Finder
 from glueroom.losses import count_starts, known, undo
 from glueroom.pictures import picture, same, seen
 from glueroom.powers import cycle, far, forgets, power
+from glueroom.roomtexts import division_text, read_row, row_text
 from glueroom.rows import Free, Join, Move, Row, Swap, run
 from glueroom.wishes import matters, meeting, wish
 from tests.helpers import fault
@@ -88,3 +92,24 @@ class TestExamples(unittest.TestCase):
 
     def test_count_starts(self):
         self.assertEqual(count_starts(Row(3, [Free(2)]), alone(3)), 3)
+
+    def test_found(self):
+        self.assertEqual(fault(Finder(2).found), ("NoAnswer",))
+
+    def test_book(self):
+        book = Book(3)
+        book.keep("a", [Join(0, 1)])
+        book.call("a")
+        self.assertEqual((book.where().groups, book.many()), (((0, 1), (2,)), 2))
+
+    def test_texts(self):
+        self.assertEqual(division_text(Division(4, [[3, 1]])), "0 | 1 3 | 2")
+        self.assertEqual(fault(read_row, 3, "join 0 1, free"), ("BadText", 1))
+        self.assertEqual(row_text(Row(3, [Join(0, 1), Free(2)])), "join 0 1, free 2")
+
+    def test_desk(self):
+        desk = Desk(4)
+        desk.tell("keep a join 0 1, free 0, free 1")
+        desk.tell("keep b free 0, free 1")
+        self.assertEqual(desk.tell("same a b"), ["differ 0-2 1-3"])
+        self.assertEqual(Desk(2).tell("drop a"), ["refused norow"])
